@@ -1,0 +1,1 @@
+"""Stylobate: an analytics engine whose answers never depend on layout, rewriting or memory."""

@@ -1,0 +1,1 @@
+"""The meaning of plans: which rows a query has."""

@@ -1,0 +1,1 @@
+"""Values, their orders and operations, and expressions on rows."""

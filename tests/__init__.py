@@ -1,0 +1,1 @@
+"""Tests of stylobate; run them with python3 -m unittest discover -s tests -t ."""
