@@ -1,6 +1,6 @@
 """Operations on two values."""
 
-from stylobate.values.days import FIRST_DAY, date_of, day_of, is_day, month_length
+from stylobate.values.days import date_of, day_of, is_day, month_length
 from stylobate.values.decimals import limited, quotient, rounded
 from stylobate.values.logic import both, either
 from stylobate.values.order import before, is_integer, kind_rank, same

@@ -1,0 +1,1 @@
+"""The query language: tokens, syntax, names and kinds, and texts of queries."""
