@@ -96,15 +96,18 @@ def _value_of(name, kind, expression, condition):
     return (name, expression)
 
 
+def _bind_operand(code, scope, offset):
+    """Return the expression of an operand and the name of its kind; None and None if there is none."""
+    if code is None:
+        return None, None
+    part = bind_whole(code, scope, offset)
+    return part.expression, kind_name(part)
+
+
 def bind_aggregate(aggregate, scope):
     """Return the value and the column of an aggregate other than grouping; its name is not looked at."""
     name, code, condition_code, alias, offset = aggregate
-    expression = None
-    kind = None
-    if code is not None:
-        part = bind_whole(code, scope, offset)
-        expression = part.expression
-        kind = kind_name(part)
+    expression, kind = _bind_operand(code, scope, offset)
     condition = None
     if condition_code is not None:
         condition = bind_truth(condition_code, scope, offset)
@@ -115,11 +118,6 @@ def bind_aggregate(aggregate, scope):
 def bind_function(function, scope):
     """Return the function of a window (part 3) and its column; its name is not looked at."""
     name, code, frame, number, alias, offset = function
-    expression = None
-    kind = None
-    if code is not None:
-        part = bind_whole(code, scope, offset)
-        expression = part.expression
-        kind = kind_name(part)
-        _check_kind(name, kind, offset)
+    expression, kind = _bind_operand(code, scope, offset)
+    _check_kind(name, kind, offset)
     return (name, expression, frame, number), result_column(name, kind, alias)
