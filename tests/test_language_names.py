@@ -301,6 +301,8 @@ class Sizes(unittest.TestCase):
         self.check("+".join(["a"] * 60) + " + b", TOO_DEEP)
         self.check("+".join(["a"] * 59) + " + b", KINDS_FAULT)
         self.check("a + b" + " + a" * 100, KINDS_FAULT)
+        self.check("+".join(["1"] * 59) + " > 1", None)
+        self.check("+".join(["1"] * 60) + " > 1", TOO_DEEP)
 
     def test_faults_stand_where_those_of_kinds_do(self):
         deep = "+".join(["a"] * 61)
@@ -330,6 +332,21 @@ class Sizes(unittest.TestCase):
         # both(e, f) counts twice their sizes, 1 for the sum and 1 for the call.
         self.assertIsNone(fault("both(" + self.sum_of(125) + ", " + self.sum_of(125) + ")"))
         self.assertEqual(fault("both(" + self.sum_of(126) + ", " + self.sum_of(125) + ")"), (0, TOO_LARGE))
+
+    def test_the_body_of_a_function_is_one_part_with_its_call(self):
+        """What a call stands for is looked at as a whole, behind its operands."""
+        functions = ["one(x) = 1", "drop(x) = one(x + 'a')", "keep(x) = x + 'a'", "deep(x) = one(" + "-(" * 18 + "x" + ")" * 18 + ")",
+                     "deeper(x) = deep(deep(" + "+".join(["x"] * 58) + "))"]
+        catalog = Catalog(TABLES, functions=functions)
+
+        def fault(text):
+            return fault_of(bind_value, text, "int", catalog, TABLES[0][1])
+
+        self.assertIsNone(fault("drop(a)"))
+        self.assertEqual(bind_value("drop(a)", "int", catalog, TABLES[0][1]), constant(1))
+        self.assertEqual(fault("keep(a)"), (0, KINDS_FAULT))
+        self.assertEqual(fault("drop(a + 'a')"), (0, KINDS_FAULT))
+        self.assertIsNone(fault("deeper(a)"))
 
     def test_functions_that_grow(self):
         functions = ["f0(x) = x + x"] + [f"f{k}(x) = f{k - 1}(f{k - 1}(x))" for k in range(1, 8)]
@@ -474,6 +491,9 @@ class Columns(unittest.TestCase):
                    list("nabcdefghijkl"), "int " * 13, "----N-NNNNNNN")
         self.check("from t window compute first(b) as k, sum(c) as l, before(d) as m, after(e) as n",
                    list("abcdeklmn"), "int text decimal date bool text decimal date bool", "-N-N-NNNN")
+
+        self.check("from t window compute last(b) as k, first(c) as l, after(d) as m, before(e) as n, max(b) as o, min(d) as p",
+                   list("abcdeklmnop"), "int text decimal date bool text decimal date bool text date", "-N-N-NNNNNN")
 
     def test_unions(self):
         self.check("from u union (from t select a as k, b as l)", ["a", "x"], "int text", "NN")

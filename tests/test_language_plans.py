@@ -296,6 +296,9 @@ class Steps(unittest.TestCase):
                      ("tile", None, None, 4), ("sum", A, None, None), ("count", B, None, None), ("min", C, (1, 0), None),
                      ("max", D, None, None), ("first", E, None, None), ("last", A, None, None), ("before", A, None, 1),
                      ("after", A, None, 3), ("before", B, None, 0)), T))
+        for name in ("sum", "count", "min", "max", "first", "last"):
+            self.check(f"from v window compute {name}(n) rows 0 before and 9 after as s",
+                       ("window", (), (), ((name, A, (0, 9), None),), V))
         self.check("from v window compute sum(n + 1) rows 2 before and 3 after as s",
                    ("window", (), (), (("sum", binary("add", A, constant(1)), (2, 3), None),), V))
 

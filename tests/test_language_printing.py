@@ -99,6 +99,11 @@ class Brackets(unittest.TestCase):
         self.check("a mod (b mod c)")
         self.check("(a < b) + c")
         self.check("(a is null) + 1")
+        self.check("(a || b) * c")
+        self.check("a * (b || c)")
+        self.check("a * (b - c) / d")
+        self.check("(a || b) + c - d", "a || b + c - d")
+        self.check("a + (b || c)")
 
     def test_not(self):
         self.check("not (a and b)")

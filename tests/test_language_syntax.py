@@ -67,6 +67,17 @@ class Precedence(unittest.TestCase):
                          binary("equal", binary("equal", P, constant(1)), constant(True)))
         self.assertEqual(condition("not p not in (1)"), unary("not", unary("not", binary("equal", P, constant(1)))))
 
+    def test_every_comparison_is_looser_than_a_sum(self):
+        less, at_most, equal = [lambda x, y, n=n: binary(n, x, y) for n in ("less", "at most", "equal")]
+        more = binary("add", P, constant(1))
+        told = {"=": equal(Q, more), "<>": unary("not", equal(Q, more)), "!=": unary("not", equal(Q, more)),
+                "<": less(Q, more), "<=": at_most(Q, more), ">": less(more, Q), ">=": at_most(more, Q)}
+        for sign, wanted in told.items():
+            self.assertEqual(condition(f"q {sign} p + 1"), wanted)
+            self.assertEqual(condition(f"q {sign} p + 1 = b"), equal(wanted, B))
+            self.assertEqual(condition(f"q {sign} p + 1 and b"), binary("and", wanted, B))
+        self.assertEqual(value("p - q * r"), binary("subtract", P, binary("multiply", Q, R)))
+
     def test_literals(self):
         told = {"5": constant(5), "-5": constant(-5), "- 5": constant(-5), "007": constant(7),
                 "- - 5": unary("negate", constant(-5)), "-(5)": unary("negate", constant(5)),

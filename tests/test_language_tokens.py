@@ -46,6 +46,7 @@ class Tokens(unittest.TestCase):
         self.check("''''", [("text", "'", 0)])
         self.check("'a\"b'\"c'd\"", [("text", 'a"b', 0), ("name", "c'd", 5)])
         self.check('"' + "n" * 3900 + '"', [("name", "n" * 3900, 0)])
+        self.check("a\n\"b\"\t'c'\n", [("word", "a", 0), ("name", "b", 2), ("text", "c", 6)])
 
     def test_numbers(self):
         self.check("0 007 1000000000000000", [("integer", 0, 0), ("integer", 7, 2), ("integer", 10 ** 15, 6)])
@@ -106,6 +107,9 @@ class Faults(unittest.TestCase):
         self.check("a ^'b''", "the text is not closed")
         self.check("a 'b^\nc\t'", UNEXPECTED)
         self.check('a "b""^\tc\n"', UNEXPECTED)
+        self.check('a "^\tb"', UNEXPECTED)
+        self.check("a '^\n'", UNEXPECTED)
+        self.check("a 'b^\t'", UNEXPECTED)
 
     def test_numbers(self):
         self.check("a ^1000000000000001", LARGE)
@@ -185,7 +189,7 @@ class Words(unittest.TestCase):
     def test_small_and_capital_letters(self):
         self.assertIsNone(query_fault("FROM t WHERE a IN (1) AND Not e Or b LIKE 'x' ORDER BY a DESC NULLS FIRST"))
         self.assertIsNone(query_fault("from t where d = DATE '2026-01-01'"))
-        self.assertIsNone(query_fault("from t window compute FIRST(a) ROWS 1 BEFORE AND 2 AFTER as x, Before(a) as y"))
+        self.assertIsNone(query_fault("from t window compute FIRST(a) ROWS 1 BEFORE AND 2 AFTER as x, Before(a) as y, AFTER(a) as z, LAST(a) as w"))
 
     def test_names(self):
         self.assertEqual(query_fault("from T"), (5, "unknown table T"))

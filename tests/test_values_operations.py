@@ -78,7 +78,7 @@ class One(unittest.TestCase):
         self.check("lower", [("aBZ[@`z", "abz[@`z"), ("", "")])
         self.check("upper", [("aBZ{@`z", "ABZ{@`Z"), ("", "")])
         self.check("length", [("", 0), ("abc", 3), (LONG, 10000)])
-        self.check("trim", [("  a b  ", "a b"), ("   ", ""), ("", ""), ("\ta\n ", "\ta\n"), ("a", "a")])
+        self.check("trim", [("  a b  ", "a b"), ("   ", ""), ("", ""), ("\ta\n ", "\ta\n"), ("a", "a"), (" _a_ ", "_a_")])
         self.check("text to int", [("12", 12), ("-012", -12), ("", None), ("1.0", None)])
         self.check("text to decimal", [("1.5", 15000), ("1.", None), ("-0.0001", -1)])
         self.check("text to date", [("1970-01-02", 1), ("1970-1-2", None), ("2026-02-29", None)])

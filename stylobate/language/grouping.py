@@ -124,6 +124,6 @@ def bind_group(step, relation, setting):
         united = ("union", united, _choice_plan(choice, keys, values, plan))
     # Each choice has a project and a group over the plan of before; a union joins it to the others.
     operations = len(choices) * (relation.operations + 3) - 1
-    if mode not in ("plain", "none"):
+    if mode != "plain":
         key_columns = as_nullable(key_columns)
     return Relation(united, key_columns + columns, operations)

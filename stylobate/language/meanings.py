@@ -18,11 +18,9 @@ _CONVERSIONS = {
     "text": (("text", ""), ("int", "int to text"), ("date", "date to text"), ("", "decimal to text")),
     "date": (("date", ""), ("", "text to date")),
 }
-_CALLS_OF_TWO = {
-    "coalesce": "coalesce", "same": "same", "least": "least", "greatest": "greatest",
-    "position": "position", "add_months": "add months", "add_days": "add days",
-}
+_CALLS_OF_TWO = ("coalesce", "same", "least", "greatest", "position", "add_months", "add_days")
 _WITH_DECIMALS = ("coalesce", "same", "least", "greatest")
+_OF_DATES = {"add_months": "add months", "add_days": "add days"}
 _CALLS_OF_THREE = ("part", "replace", "split", "pad")
 _ARITHMETIC = {"+": "add", "-": "subtract", "*": "multiply", "/": "divide", "mod": "rest"}
 _OF_DECIMALS = {"multiply": "multiply decimals", "divide": "divide decimals"}
@@ -179,4 +177,4 @@ def call_part(name, parts):
         return binary_part("position", other, one)
     if name in _WITH_DECIMALS:
         return _compared(name, one, other)
-    return binary_part(_CALLS_OF_TWO[name], one, other)
+    return binary_part(_OF_DATES[name], one, other)

@@ -42,9 +42,9 @@ class Reader:
         self.at += 1
         return value
 
-    def sign_here(self, sign, ahead=0):
-        """Tell whether the next token, or one further ahead, is this sign."""
-        return self.form_here(ahead) == "sign" and self.tokens[self.at + ahead][1] == sign
+    def sign_here(self, sign):
+        """Tell whether the next token is this sign."""
+        return self.form_here() == "sign" and self.value_here() == sign
 
     def word_here(self, word, ahead=0):
         """Tell whether the next token, or one further ahead, is this word."""
