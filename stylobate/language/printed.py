@@ -2,10 +2,9 @@
 
 from stylobate.language.reader import is_reserved
 from stylobate.language.reading_expressions import level_of, operands_of
+from stylobate.language.tokens import DIGITS, LETTERS
 from stylobate.values.decimals import decimal_text
 
-_LETTERS = "abcdefghijklmnopqrstuvwxyzABCDEFGHIJKLMNOPQRSTUVWXYZ_"
-_DIGITS = "0123456789"
 _NAME_MARK = "\""
 _TEXT_MARK = "'"
 _ALONE = 8
@@ -15,9 +14,9 @@ _COMPARISON = 4
 
 
 def _is_word(name):
-    if name[0] not in _LETTERS:
+    if name[0] not in LETTERS:
         return False
-    return all([sign in _LETTERS or sign in _DIGITS for sign in name])
+    return all([sign in LETTERS or sign in DIGITS for sign in name])
 
 
 def name_token(name):

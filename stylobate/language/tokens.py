@@ -5,7 +5,7 @@ A token is a tuple (form, value, offset). The forms are "word", "name", "integer
 """
 
 from stylobate.errors import QueryError
-from stylobate.values.decimals import GREATEST
+from stylobate.values.decimals import read_digits
 
 RESERVED = (
     "with", "as", "from", "left", "full", "cross", "join", "on", "where", "not", "exists", "in", "let",
@@ -16,10 +16,9 @@ RESERVED = (
 )
 
 _MOST_SIGNS = 4000
-_MOST_DIGITS = 16
 _MOST_PARAMETERS = 20
-_DIGITS = "0123456789"
-_LETTERS = "abcdefghijklmnopqrstuvwxyzABCDEFGHIJKLMNOPQRSTUVWXYZ_"
+DIGITS = "0123456789"
+LETTERS = "abcdefghijklmnopqrstuvwxyzABCDEFGHIJKLMNOPQRSTUVWXYZ_"
 _BLANKS = " \n\t"
 # The longer signs come first: the longest one is taken.
 _SIGNS = ("<>", "!=", "<=", ">=", "||", "(", ")", "[", "]", ",", ".", "*", "+", "-", "/", "=", "<", ">")
@@ -33,42 +32,34 @@ def _behind(text, start, signs):
     return at
 
 
-def _value_of_digits(digits):
-    """Return the integer, or None if it is greater than any limit."""
-    needed = digits.lstrip("0")
-    if len(needed) > _MOST_DIGITS:
-        return None
-    return int(needed) if needed != "" else 0
-
-
-def _limited(digits, start):
-    number = _value_of_digits(digits)
-    if number is None or number > GREATEST:
+def _value_of(digits, start):
+    number = read_digits(digits)
+    if number is None:
         raise QueryError(start, "the number is too large")
     return number
 
 
 def _read_number(text, start):
     """Return an integer or a decimal that begins at `start`, and where it ends."""
-    whole_end = _behind(text, start, _DIGITS)
+    whole_end = _behind(text, start, DIGITS)
     whole = text[start:whole_end]
-    if text[whole_end:whole_end + 1] == "." and _behind(text, whole_end + 1, _DIGITS) > whole_end + 1:
-        end = _behind(text, whole_end + 1, _DIGITS + _LETTERS)
+    if text[whole_end:whole_end + 1] == "." and _behind(text, whole_end + 1, DIGITS) > whole_end + 1:
+        end = _behind(text, whole_end + 1, DIGITS + LETTERS)
         part = text[whole_end + 1:end]
-        if len(part) > 4 or _behind(part, 0, _DIGITS) < len(part):
+        if len(part) > 4 or _behind(part, 0, DIGITS) < len(part):
             raise QueryError(start, "invalid number")
-        return ("decimal", _limited(whole + part.ljust(4, "0"), start), start), end
-    if _behind(text, whole_end, _LETTERS) > whole_end:
+        return ("decimal", _value_of(whole + part.ljust(4, "0"), start), start), end
+    if _behind(text, whole_end, LETTERS) > whole_end:
         raise QueryError(start, "invalid number")
-    return ("integer", _limited(whole, start), start), whole_end
+    return ("integer", _value_of(whole, start), start), whole_end
 
 
 def _read_parameter(text, start):
-    end = _behind(text, start + 1, _DIGITS + _LETTERS)
+    end = _behind(text, start + 1, DIGITS + LETTERS)
     digits = text[start + 1:end]
-    if digits == "" or _behind(digits, 0, _DIGITS) < len(digits):
+    if digits == "" or _behind(digits, 0, DIGITS) < len(digits):
         raise QueryError(start, "invalid parameter")
-    number = _value_of_digits(digits)
+    number = read_digits(digits)
     if number is None or not 1 <= number <= _MOST_PARAMETERS:
         raise QueryError(start, "invalid parameter")
     return ("parameter", number, start), end
@@ -100,10 +91,10 @@ def _read_sign(text, start):
 def _read_token(text, start):
     """Return the token that begins at `start`, and where it ends."""
     first = text[start]
-    if first in _LETTERS:
-        end = _behind(text, start, _LETTERS + _DIGITS)
+    if first in LETTERS:
+        end = _behind(text, start, LETTERS + DIGITS)
         return ("word", text[start:end], start), end
-    if first in _DIGITS:
+    if first in DIGITS:
         return _read_number(text, start)
     if first == "$":
         return _read_parameter(text, start)

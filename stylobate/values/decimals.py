@@ -36,13 +36,18 @@ def decimal_text(number):
     return f"{sign}{whole}.{digits}"
 
 
-def _number(sign, digits):
-    # Long runs of zeros are taken away first: Python does not read integers of any length.
+def read_digits(digits):
+    """Return the integer that one or more digits tell, or None if it is beyond the limits."""
+    # Zeros in front are taken away first: Python does not read integers of any length.
     needed = digits.lstrip("0")
     if len(needed) > _MOST_DIGITS:
         return None
-    size = int(needed) if needed != "" else 0
-    return limited(-size if sign else size)
+    return limited(int(needed)) if needed != "" else 0
+
+
+def _signed(sign, digits):
+    size = read_digits(digits)
+    return -size if sign and size is not None else size
 
 
 def read_integer(text):
@@ -51,7 +56,7 @@ def read_integer(text):
     digits = text[1:] if sign else text
     if not is_digits(digits):
         return None
-    return _number(sign, digits)
+    return _signed(sign, digits)
 
 
 def read_decimal(text):
@@ -62,4 +67,4 @@ def read_decimal(text):
         return None
     if dot != "" and not (is_digits(part) and len(part) <= 4):
         return None
-    return _number(sign, whole + part.ljust(4, "0"))
+    return _signed(sign, whole + part.ljust(4, "0"))
