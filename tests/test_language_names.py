@@ -156,6 +156,7 @@ class Faults(unittest.TestCase):
         for word in ("select", "extend", "group by", "group by rollup"):
             self.check(f"from t {word} a as x, ^a + 1", "a name is expected: as")
             self.check(f"from t {word} ^1", "a name is expected: as")
+            self.check(f"from t {word} ^int(a)", "a name is expected: as")
             self.check(f"from t {word} a as x, ^b as x", "the name stands twice: x")
         self.check("from t select a, ^t.a", "the name stands twice: a")
         self.check("from t group by a, ^b as a", "the name stands twice: a")

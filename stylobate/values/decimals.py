@@ -62,7 +62,8 @@ def read_integer(text):
 def read_decimal(text):
     """Return the ten-thousandths of the decimal that a text tells, or None."""
     sign = text.startswith("-")
-    whole, dot, part = (text[1:] if sign else text).partition(".")
+    size = text[1:] if sign else text
+    whole, dot, part = size.partition(".")
     if not is_digits(whole):
         return None
     if dot != "" and not (is_digits(part) and len(part) <= 4):
