@@ -36,7 +36,8 @@ def evaluate_all(expressions, row):
     return [evaluate(expression, row) for expression in expressions]
 
 
-def _parts(expression):
+def parts_of(expression):
+    """Return the tuple of the expressions that an operation or a choice works on."""
     return expression[_FIRST_PART[expression[0]]:]
 
 
@@ -52,7 +53,7 @@ def columns_of(expression):
         part = waiting.pop()
         if part[0] == "column":
             found[part[1]] = True
-        waiting.extend(_parts(part))
+        waiting.extend(parts_of(part))
     return sorted(found)
 
 
@@ -61,7 +62,7 @@ def moved(expression, distance):
     if expression[0] == "column":
         return ("column", expression[1] + distance)
     parts = []
-    for part in _parts(expression):
+    for part in parts_of(expression):
         parts.append(moved(part, distance))
     return _with_parts(expression, parts)
 
@@ -72,7 +73,7 @@ def replaced(expression, expressions):
         number = expression[1]
         return expressions[number] if number < len(expressions) else ("constant", None)
     parts = []
-    for part in _parts(expression):
+    for part in parts_of(expression):
         parts.append(replaced(part, expressions))
     return _with_parts(expression, parts)
 
@@ -83,7 +84,7 @@ def size_of(expression):
     waiting = [expression]
     while waiting:
         size += 1
-        waiting.extend(_parts(waiting.pop()))
+        waiting.extend(parts_of(waiting.pop()))
     return size
 
 
@@ -93,7 +94,7 @@ def depth_of(expression):
     level = [expression]
     while level:
         depth += 1
-        level = [part for outer in level for part in _parts(outer)]
+        level = [part for outer in level for part in parts_of(outer)]
     return depth
 
 
@@ -109,7 +110,7 @@ def same_expression(first, second):
                 return False
         elif one[0] != "choice" and one[1] != other[1]:
             return False
-        waiting.extend(list(zip(_parts(one), _parts(other))))
+        waiting.extend(list(zip(parts_of(one), parts_of(other))))
     return True
 
 
@@ -142,7 +143,7 @@ def _fold_here(expression):
         if not _is_constant(condition):
             return expression
         return first if condition[1] is True else second
-    if all([_is_constant(part) for part in _parts(expression)]):
+    if all([_is_constant(part) for part in parts_of(expression)]):
         return ("constant", evaluate(expression, []))
     return _fold_binary(expression) if form == "binary" else expression
 
@@ -150,6 +151,6 @@ def _fold_here(expression):
 def folded(expression):
     """Return the expression, folded from the inside out."""
     parts = []
-    for part in _parts(expression):
+    for part in parts_of(expression):
         parts.append(folded(part))
     return _fold_here(_with_parts(expression, parts))
