@@ -1,0 +1,1 @@
+"""Plans that are rewritten, and turned into physical plans."""
