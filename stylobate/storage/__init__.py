@@ -1,0 +1,1 @@
+"""Tables: groups of encoded columns with zones, buffers, and files."""
