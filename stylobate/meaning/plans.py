@@ -14,15 +14,23 @@ def table_rows(number, tables):
     return [list(row) for row in tables[number]] if number < len(tables) else []
 
 
-def step_rows(operator, inputs):
-    """Return the rows of an operator that plans and physical plans write alike."""
+def operator_rows(operator, inputs, tables):
+    """Return the rows of an operator for the lists of the rows of its inputs."""
     form = operator[0]
+    if form == "table":
+        return table_rows(operator[1], tables)
     if form == "rows":
         return [list(row) for row in operator[2]]
     if form == "filter":
         return [row for row in inputs[0] if holds(operator[1], row)]
     if form == "project":
         return [evaluate_all(operator[1], row) for row in inputs[0]]
+    if form == "join":
+        return join_rows(operator[1], operator[2], operator[3], inputs[0], inputs[1])
+    if form == "group":
+        return group_rows(operator[1], operator[2], inputs[0])
+    if form == "distinct":
+        return different_rows(inputs[0])
     if form == "union":
         return inputs[0] + inputs[1]
     if form == "window":
@@ -31,23 +39,9 @@ def step_rows(operator, inputs):
     return cut_rows(sorted_rows(inputs[0], keys), skip, count)
 
 
-def _operator_rows(operator, inputs, tables):
-    """Return the rows of an operator for the lists of the rows of its inputs."""
-    form = operator[0]
-    if form == "table":
-        return table_rows(operator[1], tables)
-    if form == "join":
-        return join_rows(operator[1], operator[2], operator[3], inputs[0], inputs[1])
-    if form == "group":
-        return group_rows(operator[1], operator[2], inputs[0])
-    if form == "distinct":
-        return different_rows(inputs[0])
-    return step_rows(operator, inputs)
-
-
 def rows_of(plan, tables):
     """Return a list of the rows of a plan, as new lists."""
-    return worked_up(plan, lambda operator, inputs: _operator_rows(operator, inputs, tables))
+    return worked_up(plan, lambda operator, inputs: operator_rows(operator, inputs, tables))
 
 
 def _uses_known(operator, many):

@@ -1,0 +1,1 @@
+"""Physical plans, and the ways in which they are worked."""
