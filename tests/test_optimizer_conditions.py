@@ -178,6 +178,12 @@ class Refusing(unittest.TestCase):
     def test_not_is_looked_at_by_its_words(self):
         self.assertTrue(self.refuses(unary("not", unary("is null", binary("add", A, C)))))
         self.assertFalse(self.refuses(unary("not", unary("is null", binary("coalesce", A, C)))))
+        # Only "not" of "is null" is looked at so.
+        for name in UNARY:
+            if name != "not":
+                self.assertFalse(self.refuses(unary(name, unary("is null", C))), name)
+        self.assertFalse(self.refuses(unary("not", constant("is null"))))
+        self.assertFalse(self.refuses(constant("and")))
         # "or" within "not" is None only if both operands are.
         self.assertTrue(self.refuses(unary("not", either(C, column(3)))))
         self.assertFalse(self.refuses(unary("not", either(C, A))))

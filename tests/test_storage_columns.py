@@ -102,6 +102,9 @@ class Columns(unittest.TestCase):
         self.assertFalse(Encoded(1, None, ("runs", ((1, 1),))) == Encoded(1, None, ("runs", ((True, 1),))))
         self.assertTrue(Encoded(1, None, ("runs", ((1, 1),))) == Encoded(1, None, ("runs", ((1, 1),))))
         self.assertFalse(Encoded(1, None, ("plain", (0,))) == Encoded(1, None, ("plain", (False,))))
+        told = [encode_as(form, [4, 4]) for form in FORMS]
+        for at, encoded in enumerate(told):
+            self.assertEqual([encoded == other for other in told], [at == place for place in range(len(told))])
         for other in (None, 1, "plain", (2, [True, False], ("plain", (1,))), [one]):
             self.assertFalse(one == other)
 

@@ -192,6 +192,14 @@ class Damaged(Files):
         self.refused(sealed([]))
         self.refused(sealed(MARK))
 
+    def test_numbers_that_are_octets_but_for_a_multiple_of_256(self):
+        packed = Encoded(1, None, ("packed", 0, 1, 9, 256))
+        octets = one_column(INT, column_octets(packed), 1)
+        self.read(octets)
+        for at in range(len(octets)):
+            for more in (256, -256):
+                self.refused(octets[:at] + [octets[at] + more] + octets[at + 1:])
+
     def test_the_mark(self):
         octets = self.octets()[:-4]
         for at in range(4):
@@ -469,6 +477,13 @@ class InOrder(unittest.TestCase):
         self.assertIs(in_order(Table([Column(f"c{k}", "int", True) for k in range(13)], 5)), False)
         for size, wanted in ((0, False), (1, True), (1000, True), (1001, False), (-1, False)):
             self.assertIs(in_order(Table([INT], size)), wanted)
+
+    def test_bits_beyond_the_packed_numbers(self):
+        for body, wanted in ((("packed", 0, 3, 1, 0b111), True), (("packed", 0, 3, 1, 0b1000), False),
+                             (("packed", 0, 3, 0, 1), False), (("packed", 0, 3, 1, -1), False),
+                             (("deltas", 0, 0, 3, 1, 0b11), True), (("deltas", 0, 0, 3, 1, 0b100), False),
+                             (("dictionary", (1, 2), 3, 1, 0b111), True), (("dictionary", (1, 2), 3, 1, 0b1000), False)):
+            self.assertIs(in_order(table_with(INT, Encoded(3, None, body))), wanted, body)
 
     def test_groups_and_buffers(self):
         table = Table([INT], 3)

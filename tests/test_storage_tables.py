@@ -251,9 +251,12 @@ class Layouts(unittest.TestCase):
         table.flush()
         table.cluster([(0, True)])
         self.assertEqual(fork.present_rows(), kept)
+        table = table_of(2, rows(0, 3))
+        fork = table.fork()
         fork.buffer[0].append(1)
+        fork.groups[0].dead[0] = True
         fork.columns[0].name = "other"
-        self.assertEqual(table.columns, COLUMNS)
+        self.assertEqual((table.columns, table.present_rows()), (COLUMNS, rows(0, 3)))
 
 
 class Sequences(unittest.TestCase):

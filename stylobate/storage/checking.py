@@ -48,16 +48,14 @@ def _body_fits(body, present):
     return count == present and present >= 1 and _packed_fits(count - 1, width, bits)
 
 
-def _values_in(body):
-    """Return the list of the values that stand in a body as they are."""
+def _helpers_in(body):
+    """Return the list of what stands in a body without being a present value: words, leasts."""
     form = body[0]
-    if form in ("plain", "dictionary"):
+    if form == "dictionary":
         return list(body[1])
-    if form == "runs":
-        return [value for value, _ in body[1]]
-    if form == "deltas":
-        return [body[1], body[2]]
-    return [body[1]]
+    if form == "packed":
+        return [body[1]]
+    return [body[2]] if form == "deltas" else []
 
 
 def _can_stand(value):
@@ -75,7 +73,8 @@ def _column_in_order(encoded, many, column):
     nulls = 0 if mask is None else len([mark for mark in mask if mark])
     if not _body_fits(encoded.body, many - nulls):
         return False
-    if not all([_can_stand(value) for value in _values_in(encoded.body)]):
+    # The bounds of columns are narrower, so only what is no present value is held against these.
+    if not all([_can_stand(value) for value in _helpers_in(encoded.body)]):
         return False
     present = values_of(encoded.body)
     if not all([value is not None and column.takes(value) for value in present]):
