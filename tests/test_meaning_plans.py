@@ -4,6 +4,7 @@ import copy
 import random
 import unittest
 
+from stylobate.errors import QueryError
 from stylobate.language.catalog import Catalog
 from stylobate.language.queries import Query, bind_query
 from stylobate.meaning.groups import group_rows
@@ -12,7 +13,11 @@ from stylobate.meaning.operators import expressions_in, inputs_in, operators_in
 from stylobate.meaning.order import sorted_rows
 from stylobate.meaning.plans import answer_of, rows_of, tables_of, width_of
 from stylobate.meaning.windows import window_rows
+from stylobate.values.kinds import fits
 from stylobate.values.order import row_rank
+from tests.queries import CATALOG
+from tests.queries import TABLES as DESCRIBED
+from tests.random_queries import Maker
 from tests.samples import binary, column, constant, is_exactly, ternary, unary
 
 A, B = column(0), column(1)
@@ -271,6 +276,29 @@ class Answers(unittest.TestCase):
         self.assertEqual(answer("from e aggregate count(*) as n, avg(a) as v"), [[0, None]])
         self.assertEqual(answer("from t aggregate avg(a) as v, list(b) where a = 1 as l"), [[17500, "a, a"]])
         self.assertEqual(answer("from t order by a nulls last limit 2 offset 1"), [[1, "a"], [2, "b"]])
+
+    def rows_by_chance(self, chance, columns):
+        pools = {"int": [0, 1, 2, -5], "text": ["", "a", "b"], "decimal": [0, 5000, -20000], "date": [0, 20512],
+                 "bool": [True, False]}
+        return [[None if nullable and chance.random() < 0.2 else chance.choice(pools[kind]) for _, kind, nullable in columns]
+                for _ in range(chance.randrange(6))]
+
+    def test_queries_by_chance_have_the_columns_that_are_told(self):
+        chance = random.Random(73)
+        told = 0
+        for _ in range(400):
+            text = Maker(chance).query()
+            try:
+                query = bind_query(text, CATALOG)
+            except QueryError:
+                continue
+            self.assertEqual(width_of(query.plan, [len(columns) for _, columns in DESCRIBED]), len(query.names))
+            for row in answer_of(query, [self.rows_by_chance(chance, columns) for _, columns in DESCRIBED]):
+                self.assertEqual(len(row), len(query.kinds))
+                for value, kind in zip(row, query.kinds):
+                    self.assertTrue(value is None or fits(value, kind), text)
+                    told += 1
+        self.assertGreater(told, 1000)
 
 
 if __name__ == "__main__":
