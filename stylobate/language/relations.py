@@ -67,11 +67,6 @@ def kinds_of(columns):
     return [column.kind[0] for column in columns]
 
 
-def column_range(start, behind):
-    """Return the tuple of the expressions of neighboring columns."""
-    return tuple([("column", number) for number in range(start, behind)])
-
-
 def check_bounds(relation, offset):
     """Raise a fault if a query that is read so far has too many operations or columns."""
     if relation.operations > _MOST_OPERATIONS:

@@ -4,8 +4,8 @@ from stylobate.errors import QueryError
 from stylobate.language.binding import Visible, bind_truth, bind_whole
 from stylobate.language.grouping import bind_group
 from stylobate.language.items import bind_function, bind_items, bind_keys, check_name
-from stylobate.language.relations import Relation, as_nullable, column_range, kinds_of
-from stylobate.values.expressions import replaced
+from stylobate.language.relations import Relation, as_nullable, kinds_of
+from stylobate.values.expressions import column_range, replaced
 
 _TRUE = ("constant", True)
 

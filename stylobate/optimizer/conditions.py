@@ -5,6 +5,11 @@ from stylobate.values.expressions import columns_of, parts_of
 _TRUE = ("constant", True)
 
 
+def is_true(condition):
+    """Tell whether a condition is the constant True."""
+    return condition[0] == "constant" and condition[1] is True
+
+
 def condition_parts(condition):
     """Return the list of the parts that "and" joins to a condition."""
     found = []

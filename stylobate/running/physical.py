@@ -18,6 +18,12 @@ def operators_of(plan):
     return operators_in(plan)
 
 
+def paired_keys(left, right):
+    """Return both lists of keys, without those at places that the other list does not have."""
+    many = min(len(left), len(right))
+    return left[:many], right[:many]
+
+
 def pair_value(left, right, rest, r, s):
     """Return the value of a pair of rows: that their keys are equal, and that the rest holds."""
     value = True

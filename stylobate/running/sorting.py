@@ -5,6 +5,11 @@ from stylobate.values.expressions import evaluate
 from stylobate.values.order import rank, row_rank
 
 
+def rising(expressions):
+    """Return the keys of the ascending order of the values of expressions."""
+    return [(expression, False) for expression in expressions]
+
+
 def _ranked(row, keys):
     """Return what a row is compared by (the ranks of its keys, and its own), and the row."""
     return ([rank(evaluate(expression, row)) for expression, _ in keys], row_rank(row), list(row))

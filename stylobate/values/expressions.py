@@ -57,6 +57,11 @@ def columns_of(expression):
     return sorted(found)
 
 
+def column_range(start, behind):
+    """Return the tuple of the expressions of neighboring columns."""
+    return tuple([("column", number) for number in range(start, behind)])
+
+
 def moved(expression, distance):
     """Return the expression with column k + distance for each column k."""
     if expression[0] == "column":
