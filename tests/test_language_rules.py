@@ -11,7 +11,7 @@ PACKAGE = os.path.join(HERE, "stylobate")
 BUILTINS = {
     "len", "range", "enumerate", "zip", "min", "max", "sum", "abs", "sorted", "reversed", "int", "str", "bool",
     "list", "tuple", "dict", "set", "isinstance", "ord", "repr", "any", "all", "divmod", "ValueError", "super",
-    "property",
+    "property", "iter",
 }
 METHODS = set(
     "append clear copy count endswith extend find get index insert isalnum isalpha isdigit islower isspace isupper "
@@ -166,8 +166,20 @@ class Names(unittest.TestCase):
                     attributes.setdefault(node.attr, []).append(path)
         self.assertEqual(sorted(set(attributes) & BARRED_ATTRIBUTES), [])
         # These count as modifications of what a loop goes over, as those of lists do.
-        self.assertEqual(sorted(name for name in methods if name in METHODS), ["insert"])
-        self.assertEqual(sorted(set(methods) & set(attributes)), [])
+        self.assertEqual(sorted(name for name in methods if name in METHODS), ["insert", "remove", "update"])
+        # The interface has this name as a method of the engine, and as a field of queries and answers.
+        self.assertEqual(sorted(set(methods) & set(attributes)), ["names"])
+        self.assertEqual(methods["names"], ["Engine"])
+
+    def test_double_underscore_methods(self):
+        for path, tree in TREES.items():
+            for node in ast.walk(tree):
+                if isinstance(node, ast.FunctionDef) and node.name == "__init__":
+                    inner = [part for part in ast.walk(node) if isinstance(part, (ast.Return, ast.FunctionDef))]
+                    self.assertEqual(inner, [node], path)
+                if isinstance(node, ast.FunctionDef) and node.name in ("__iter__", "__len__"):
+                    self.assertEqual(len(node.body), 1)
+                    self.assertRegex(ast.unparse(node.body[0]), r"^return (iter|len)\(self\.rows\)$")
 
 
 class Statements(unittest.TestCase):

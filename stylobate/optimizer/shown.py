@@ -3,6 +3,7 @@
 from stylobate.meaning.operators import inputs_in
 from stylobate.optimizer.conditions import is_true
 from stylobate.running.physical import paired_keys
+from stylobate.values.expressions import parts_of
 
 _SIGNS = {
     "equal": "=", "less": "<", "at most": "<=", "add": "+", "subtract": "-", "multiply": "*", "divide": "/",
@@ -33,10 +34,12 @@ def shown_expression(expression):
         return _shown_value(expression[1])
     if form == "column":
         return f"${expression[1]}"
+    parts = []
+    for part in parts_of(expression):
+        parts.append(shown_expression(part))
     if form == "choice":
-        return _call("if", [shown_expression(part) for part in expression[1:]])
+        return _call("if", parts)
     name = expression[1]
-    parts = [shown_expression(part) for part in expression[2:]]
     if form == "binary":
         return f"({parts[0]} {_SIGNS.get(name, name)} {parts[1]})"
     return _call(name, parts)

@@ -1,0 +1,1 @@
+"""The engine: tables, queries, kept answers and transactions."""

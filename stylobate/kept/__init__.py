@@ -1,0 +1,1 @@
+"""Answers that are kept and follow the changes of their tables."""
