@@ -129,6 +129,19 @@ class Options(Refusing, unittest.TestCase):
         for separator in ("", "ab", "\"", "\n"):
             self.refuse(engine, InvalidOptions, "export", "this is no query", separator=separator)
 
+    def test_what_they_are_if_they_are_not_given(self):
+        engine = Engine()
+        engine.create("t", [("a", "int", False)], 1000)
+        engine.insert("t", [[number] for number in range(1024)])
+        # A group of 1000 rows in batches of 64, and a buffer.
+        self.assertEqual(engine.query("from t").counters, (1, 0, 16 + 1, 0))
+        self.assertEqual(engine.profile("from t")[0].counters, (1, 0, 16 + 1, 0))
+        self.assertEqual(engine.query("from t distinct", choices=[2]).counters[3], 0)
+        self.assertEqual(engine.profile("from t distinct", choices=[2])[0].counters[3], 0)
+        engine.insert("t", [[1024]])
+        self.assertEqual(engine.query("from t distinct", choices=[2]).counters[3], 1025)
+        self.assertEqual(engine.profile("from t distinct", choices=[2])[0].counters[3], 1025)
+
     def test_faults_of_texts(self):
         engine = engine_of()
         for method in self.each():

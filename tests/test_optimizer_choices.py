@@ -101,6 +101,7 @@ class PhysicalPlans(unittest.TestCase):
         computed = (unary("negate", A), B)
         self.check(("project", computed, T), ("project", computed, SCAN_T))
         self.check(("project", (A, TRUE), T), ("project", (A, TRUE), SCAN_T))
+        self.check(("project", (B, C), T), ("project", (B, C), SCAN_T))
         self.check(("filter", A, ("project", computed, T)), ("filter", A, ("project", computed, SCAN_T)))
         self.check(("project", (B,), ("project", computed, T)), ("project", (B,), ("project", computed, SCAN_T)))
         rows = ("rows", 1, ((1,),))
@@ -133,6 +134,7 @@ class PhysicalPlans(unittest.TestCase):
     def test_the_cheapest_way(self):
         join = ("join", "inner", 2, equal(A, C), U, T)
         self.check(join, ("join", "hash left", "inner", 2, (A,), (A,), TRUE, SCAN_U, SCAN_T))
+        self.check(join, ("join", "hash right", "inner", 2, (A,), (A,), TRUE, SCAN_U, SCAN_T), (1,))
         same = ("join", "inner", 2, equal(A, C), T, T)
         self.check(same, ("join", "hash right", "inner", 2, (A,), (A,), TRUE, SCAN_T, SCAN_T))
         # One row on the left: 1 + 8 by loops, 2 + 8 by a hash of the left.
@@ -154,6 +156,7 @@ class PhysicalPlans(unittest.TestCase):
             rows = ("rows", 0, ((),) * many)
             self.check(("distinct", rows), ("distinct", way, rows))
             self.check(("group", (), (), rows), ("group", way, (), (), rows))
+            self.check(("group", (), (), rows), ("group", "hash", (), (), rows), (1,))
         # The rows that are expected count: 1 of 8 rows.
         found = physical(("distinct", ("filter", equal(A, constant(1)), T)), STATISTICS)
         self.assertEqual(found[1], "sort")
@@ -213,6 +216,12 @@ class Expected(unittest.TestCase):
         self.check(("join", "hash right", "inner", 2, (A,), (A,), less(B, D), SCAN_T, SCAN_U), 2, 13 + 18 + 2)
         # Two keys and the rest: 125 and (334 and 1000) are 42.
         self.check(("join", "hash right", "inner", 2, (A, B), (A, B), TRUE, SCAN_T, SCAN_U), 2, 13 + 18 + 2)
+
+    def test_joins_of_sides_with_other_numbers_of_columns(self):
+        # The greater number of different values is 3: 334 of 10 pairs.
+        one = ("rows", 1, ((1,), (2,)))
+        self.check(("join", "hash right", "inner", 2, (A,), (B,), TRUE, one, SCAN_U), 4, 2 + 5 + 12 + 4)
+        self.check(("join", "hash right", "inner", 1, (B,), (A,), TRUE, SCAN_U, one), 4, 2 + 5 + 9 + 4)
 
     def test_all_operators(self):
         plan = ("top", (), 0, 2, ("union", SCAN_T, ("distinct", "hash", SCAN_U)))

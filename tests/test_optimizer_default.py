@@ -63,6 +63,7 @@ class Costs(unittest.TestCase):
         self.check(("join", "never", 2, equal(A, C), T, U), 13 + 48 + 3)
         self.check(("join", "inner", 2, TRUE, T, U), 13 + 48 + 40)
         self.check(("join", "inner", 2, TRUE, U, T), 13 + 45 + 40)
+        self.check(("join", "inner", 2, equal(A, B), ("rows", 1, ((1,), (2,))), U), 2 + 5 + 9 + 3)
         # One row on the left: 1 + 8 by loops is the least.
         self.check(("join", "inner", 2, equal(A, B), V, T), 9 + 9 + 1)
 
@@ -185,6 +186,38 @@ class Defaults(unittest.TestCase):
         plan = ("project", (B, A), ("union", T, ("project", (B, A), U)))
         self.check(plan, [("project below union", 0), ("merge projects", 0), ("drop project", 0)],
                    ("union", ("project", (B, A), T), U))
+
+    def test_each_rule_of_the_first_list(self):
+        filtered = ("filter", less(A, B), T)
+        single = ("distinct", ("group", (A,), (), T))
+        cases = [
+            ("drop filter", ("filter", TRUE, T), T), ("merge filters", ("filter", A, ("filter", B, T)), None),
+            ("distinct twice", ("distinct", ("distinct", T)), ("distinct", T)), ("distinct twice", single, single[1]),
+            ("distinct union", ("distinct", ("union", filtered, ("distinct", T))), ("distinct", ("union", filtered, T))),
+            ("distinct below group", ("group", (A,), (), ("distinct", T)), ("group", (A,), (), T)),
+            ("drop top", ("top", ((A, True),), 0, None, T), T),
+            ("top below union", ("top", (), 0, 1, ("union", T, filtered)), None),
+            ("filter below union", ("filter", A, ("union", T, T)), None),
+            ("filter below distinct", ("filter", A, ("distinct", T)), ("distinct", ("filter", A, T))),
+            ("filter below group", ("filter", A, ("group", (A,), (), T)), None),
+            ("filter below window", ("filter", A, ("window", (A,), (), (), T)), None),
+            ("filter below project", ("filter", A, ("project", (B, TRUE), T)), None),
+        ]
+        for rule, plan, wanted in cases:
+            self.assertEqual(default_moves(plan, STATISTICS), [(rule, 0)], plan)
+            if wanted is not None:
+                self.assertEqual(make_move((rule, 0), plan, [2, 2, 1]), wanted)
+        plan = ("filter", less(C, A), ("join", "left", 2, equal(A, C), T, U))
+        self.assertEqual(default_moves(plan, STATISTICS), [("left join to inner", 0), ("filter into join", 0)])
+        plan = ("distinct", ("project", (A,), ("join", "inner", 2, equal(A, C), T, U)))
+        self.assertEqual(default_moves(plan, STATISTICS)[:1], [("distinct join", 0)])
+
+    def test_at_most_twelve_orders(self):
+        plan = ("project", (A, C), ("join", "inner", 2, less(A, C), T, U))
+        for _ in range(13):
+            plan = ("union", plan, ("project", (A, C), ("join", "inner", 2, less(A, C), T, U)))
+        _, moves = ordered(plan, STATISTICS)
+        self.assertEqual([rule for rule, _ in moves], ["commute", "merge projects"] * 12)
 
     def test_an_example(self):
         text = ("from t join u on u.a = t.a and u.x like 'a*' where c > 1.5 and b is not null "

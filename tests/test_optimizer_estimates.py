@@ -217,6 +217,8 @@ class Estimates(unittest.TestCase):
         self.check(("distinct", ("project", (B,), T)), 2, [self.limited(self.left[1], 2)])
         self.check(("distinct", ("project", (), T)), 1, [])
         self.check(("distinct", ("project", (), ("rows", 1, ()))), 0, [])
+        self.check(("distinct", ("rows", 1, ((5,),))), 1, [(0, 1, 5, 5, [5] * 8)])
+        self.check(("distinct", ("rows", 1, ((None,), (5,), (5,), (5,)))), 2, [(1, 1, 5, 5, [5] * 8)])
         # 5 different values of the left column, 3 and a None would be 15 of the right side, but 5 rows.
         self.check(("distinct", U), 5, self.right)
 

@@ -119,7 +119,9 @@ class Filters(Rules):
         self.check("filter below window", ("filter", both(B, TRUE), window),
                    ("filter", B, window[:4] + (("filter", TRUE, U),)))
         self.refuse("filter below window", ("filter", less(A, B), window), ("filter", D, window),
-                    ("filter", A, ("window", (), (), functions, U)), ("filter", A, T))
+                    ("filter", A, ("window", (), (), functions, U)), ("filter", A, T),
+                    # A function is no part, though the column of its number stands among the parts.
+                    ("filter", D, ("window", (D,), (), functions, U)))
 
     def test_filter_into_join(self):
         on = equal(A, C)
@@ -432,7 +434,7 @@ class Everywhere(Rules):
         self.assertEqual(len(rows_of(plan, tables)), 8)
 
     def test_a_table_that_is_not_there(self):
-        gone = ("table", 9)
+        gone = ("table", len(WIDTHS))
         self.refuse("commute", ("join", "inner", 2, TRUE, gone, T))
         self.refuse("condition to sides", ("join", "inner", 2, A, gone, T))
         self.check("drop filter", ("filter", TRUE, gone), gone)

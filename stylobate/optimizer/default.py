@@ -32,7 +32,7 @@ def _cheapest_way(operator, inputs):
 def plan_cost(plan, statistics):
     """Return the cost of a plan, which decides the order of joins."""
     def work(operator, inputs):
-        below = [told for told, _ in inputs]
+        below = [known for known, _ in inputs]
         told = operator_estimate(operator, below, statistics)
         way = _cheapest_way(operator, below)
         cost = own_cost(operator[0], way, told.many, [one.many for one in below])
@@ -83,8 +83,8 @@ def ordered(plan, statistics):
     moves = []
     cost = plan_cost(plan, statistics)
     for _ in range(_MOST_ORDERS):
-        others = [(plan_cost(other, statistics), other, made) for other, made in _other_orders(plan, widths)]
-        best = min(others, key=lambda other: other[0], default=None)
+        tried = [(plan_cost(other, statistics), other, more) for other, more in _other_orders(plan, widths)]
+        best = min(tried, key=lambda one: one[0], default=None)
         if best is None or best[0] >= cost:
             break
         cost, plan, made = best
