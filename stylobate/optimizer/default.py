@@ -3,7 +3,7 @@
 from stylobate.meaning.operators import worked_up
 from stylobate.optimizer.choices import cheapest_group, cheapest_join, keys_of, own_cost
 from stylobate.optimizer.estimates import operator_estimate
-from stylobate.optimizer.moves import first_moves, places
+from stylobate.optimizer.moves import moved_plan, places
 
 _FIRST = (
     "fold", "drop filter", "merge filters", "left join to inner", "filter below project",
@@ -49,9 +49,9 @@ def widths_of(statistics):
 def _first_use(rules, plan, widths):
     """Return the first rule that applies anywhere, and the plan behind it; None and None if there is none."""
     for rule in rules:
-        found = first_moves(rule, plan, widths, 1)
-        if found:
-            return rule, found[0]
+        changed = moved_plan((rule, 0), plan, widths)
+        if changed is not None:
+            return rule, changed
     return None, None
 
 

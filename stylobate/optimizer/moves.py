@@ -32,28 +32,32 @@ def _put(plan, way, changed):
     return changed
 
 
-def first_moves(rule, plan, widths, most):
-    """Return the first plans, so many at most, with the rule used at each operator at which it applies."""
+def places(rule, plan, widths):
+    """Return the list of the plans with the rule used at each operator at which it applies."""
     found = []
     for operator, way in _spots_of(plan):
-        if len(found) == most:
-            break
         changed = use_rule(rule, operator, widths)
         if changed is not None:
             found.append(_put(plan, way, changed))
     return found
 
 
-def places(rule, plan, widths):
-    """Return the list of the plans with the rule used at each operator at which it applies."""
-    return first_moves(rule, plan, widths, None)
+def moved_plan(move, plan, widths):
+    """Return the plan behind a move, or None if the rule applies at too few operators."""
+    rule, left = move
+    for operator, way in _spots_of(plan):
+        changed = use_rule(rule, operator, widths)
+        if changed is not None and left == 0:
+            return _put(plan, way, changed)
+        if changed is not None:
+            left -= 1
+    return None
 
 
 def make_move(move, plan, widths):
     """Return the plan behind a move; the plan as it is, if the rule applies at too few operators."""
-    rule, number = move
-    found = first_moves(rule, plan, widths, number + 1)
-    return found[number] if number < len(found) else plan
+    changed = moved_plan(move, plan, widths)
+    return plan if changed is None else changed
 
 
 def make_moves(moves, plan, widths):
